@@ -9,6 +9,9 @@ import (
 	"bloomery/word"
 )
 
+// registers are so many, from 0 on.
+const registers = 32
+
 // draft is an instruction as its line tells it: if it names a PLACE, its N is not known yet.
 type draft struct {
 	inst  api.Inst
@@ -82,7 +85,7 @@ func finish(drafts []draft, places map[string]int) ([]api.Inst, error) {
 	return list, nil
 }
 
-// read reads an instruction, as Print writes it, if it is of that form; whether it is Right is asked later.
+// read reads an instruction, as Print writes it, if it is of that form; whether its N may be is asked later, when all places are known.
 func read(line string) (draft, bool) {
 	name, rest, _ := strings.Cut(line, " ")
 	d := draft{inst: api.Inst{Op: opOf(name)}}
@@ -133,11 +136,11 @@ func (d *draft) take(kind byte, part string) bool {
 	return readNumber(part, &d.inst.N)
 }
 
-// readRegister reads a register, whatever its number: whether there is such a one is asked by Right.
+// readRegister reads a register. One that is none Print never writes, so it is a fault of form, told ahead of whatever is asked of a whole text; an N beyond what may be is not, for numbers are read at their full width.
 func readRegister(s string, r *int) bool {
 	digits, ok := strings.CutPrefix(s, "x")
 	var n int64
-	if !ok || !readNumber(digits, &n) {
+	if !ok || !readNumber(digits, &n) || n < 0 || n >= registers {
 		return false
 	}
 	*r = int(n)

@@ -179,7 +179,7 @@ var around = []string{"add x?,x1,x1", "add x1,x?,x1", "add x1,x1,x?", "addi x?,x
 	"ld x?,8(x1)", "ld x1,8(x?)", "jalr x?,8(x1)", "jalr x1,8(x?)", "sd x?,8(x1)", "sd x1,8(x?)", "beq x?,x1,8", "beq x1,x?,8",
 	"lui x?,4096", "jal x?,8"}
 
-// Promise 3.2: a register is x and its number; of another form it is ErrForm, and one that is none is not Right.
+// Promise 3.2: a register is x and its number, from 0 to 31; all else in its place is ErrForm, however great its number.
 func TestAssembleRegisters(t *testing.T) {
 	for _, line := range around {
 		text := func(r string) string { return strings.Replace(line, "?", r, 1) }
@@ -193,12 +193,12 @@ func TestAssembleRegisters(t *testing.T) {
 				t.Errorf("Assemble(%q): written again it is %q", text(r), back)
 			}
 		}
-		for _, r := range []string{"32", "33", "100", "-1", "-32", "256", "288", "4294967296", "4294967297", "9223372036854775807", "-9223372036854775808"} {
-			refuses(t, text(r), api.ErrRange, 0)
-			refuses(t, "ecall\n"+text(r), api.ErrRange, 1)
-		}
-		for _, r := range []string{"", "00", "01", "-0", "+1", "-", "x1", "a", "1a", "9223372036854775808", "18446744073709551616"} {
+		for _, r := range []string{"32", "33", "100", "117", "-1", "-32", "256", "288", "4294967296", "4294967297", "9223372036854775807",
+			"-9223372036854775808", "", "00", "01", "031", "-0", "+1", "-", "x1", "a", "1a", "9223372036854775808", "18446744073709551616"} {
 			refuses(t, text(r), api.ErrForm, 0)
+			refuses(t, "ecall\n"+text(r), api.ErrForm, 1)
+			refuses(t, "jal x0,none\naddi x1,x0,2048\n"+text(r), api.ErrForm, 2)
+			refuses(t, "a:\n"+text(r)+"\na:\nbad", api.ErrForm, 1)
 		}
 	}
 }
@@ -265,7 +265,9 @@ func TestAssembleMissing(t *testing.T) {
 	for _, op := range []string{"beq", "bne", "blt", "bge"} {
 		refuses(t, "ecall\na:\n"+op+" x1,x2,b", api.ErrMissing, 2)
 	}
-	refuses(t, "jal x32,none", api.ErrMissing, 0)
+	refuses(t, "jal x31,none", api.ErrMissing, 0)
+	refuses(t, "jal x32,none", api.ErrForm, 0)
+	refuses(t, "bge x3,x41,none", api.ErrForm, 0)
 }
 
 // Promise 3.2: a PLACE that is too far away for B is not for Jal.
@@ -311,7 +313,14 @@ func TestAssembleOrder(t *testing.T) {
 		{"addi x1,x2,9999\njal x0,none", api.ErrRange, 0},
 		{"ecall\n\naddi x1,x2,9999\njal x0,none\naddi x1,x2,9999", api.ErrRange, 2},
 		{"ecall\n\njal x0,none\naddi x1,x2,9999\njal x0,none", api.ErrMissing, 2},
-		{"ecall\n\naddi x32,x2,9999\nadd x1,x2,x3\nsub x1,x2,x99", api.ErrRange, 2},
+		{"ecall\n\naddi x31,x2,9999\nadd x1,x2,x3\naddi x1,x2,-9999", api.ErrRange, 2},
+		{"addi x32,x2,9999", api.ErrForm, 0},
+		{"ld x1,9999(x32)", api.ErrForm, 0},
+		{"ecall\n\naddi x31,x2,9999\nadd x1,x2,x3\nsub x1,x2,x99", api.ErrForm, 4},
+		{"jal x0,none\nld x1,0(x70)", api.ErrForm, 1},
+		{"addi x1,x0,2048\nadd x1,x2,x32", api.ErrForm, 1},
+		{"a:\na:\nadd x1,x2,x32", api.ErrTwice, 1},
+		{"a:\nadd x1,x2,x32\na:", api.ErrForm, 1},
 	} {
 		refuses(t, l.text, l.e, l.line)
 	}
