@@ -24,8 +24,28 @@ func look(t *testing.T, l []hand) {
 		if got := tell(h.code.Run([]int64{2, 1, 0}, 5000)); got != h.ends {
 			t.Errorf("%s: ends %s; %s is asked", h.what, got, h.ends)
 		}
-		if d, _ := same(t, h.what, h.code, given...); h.most > 0 && d.Steps() > h.most {
+		d, _ := same(t, h.what, h.code, given...)
+		if h.most > 0 && d.Steps() > h.most {
 			t.Errorf("%s: has %d steps when it is folded, not at most %d: %+v", h.what, d.Steps(), h.most, d)
+		}
+		for _, in := range given {
+			everyFuel(t, h.what, h.code, d, in)
+		}
+	}
+}
+
+// everyFuel asks that folded steps end as those that they were made of with every fuel, from 0 on up to where these end, and beyond.
+func everyFuel(t *testing.T, what string, c, d *mid.Code, in []int64) {
+	t.Helper()
+	for fuel, beyond := 0, 0; fuel < 1500 && beyond < 10; fuel++ {
+		want := c.Run(in, fuel)
+		if want.Way == api.Fuel {
+			d.Run(in, fuel)
+			continue
+		}
+		beyond++
+		if got := d.Run(in, fuel); tell(got) != tell(want) {
+			t.Fatalf("%s: of %v with fuel %d ends %s, folded %s", what, in, fuel, tell(want), tell(got))
 		}
 	}
 }
